@@ -1,0 +1,1 @@
+"""Layerwharf: a registry of layered images, and clients over a bad wire."""
