@@ -11,6 +11,22 @@ INTERFACE = {
     "errors": (["Refused", "Malformed", "Misused"], []),
     "addresses": (["address_of", "is_address"], ["KINDS"]),
     "images": (["image_text", "bundle_text", "read_image", "read_bundle", "references"], []),
+    "store": (["Store"], ["BELOW"]),
+    "claims": (["Claims"], []),
+    "uploads": (["Uploads"], []),
+    "collector": (["Collector"], []),
+}
+# For each class of the interface that has methods: each method, and the names of what it takes beside its object.
+METHODS = {
+    "Store": {
+        "keep": ["kind", "text"], "blob": ["address"], "remove_blob": ["address"], "addresses": [],
+        "below": ["address"], "is_whole": ["address"], "closure": ["address"],
+    },
+    "Claims": {
+        "begin": [], "is_open": ["claim"], "pin": ["claim", "address"], "end": ["claim"], "numbers": [], "pinned": [],
+    },
+    "Uploads": {"begin": [], "add_part": ["upload", "at", "part"], "finish": ["upload"], "forget": []},
+    "Collector": {"step": ["roots"], "shade": ["address"], "stop": []},
 }
 LIBRARY = {"heapq", "math", "itertools", "collections"}
 
@@ -59,6 +75,17 @@ class InterfaceTest(unittest.TestCase):
                 self.assertEqual(defined.count(name), 1, name)
             for name in values:
                 self.assertEqual(assigned.count(name), 1, name)
+
+    def test_each_method_is_defined_in_its_class_with_its_arguments(self):
+        found = {}
+        for path in FILES:
+            for node in tree_of(path).body:
+                if isinstance(node, ast.ClassDef):
+                    methods = [part for part in node.body if isinstance(part, ast.FunctionDef)]
+                    found[node.name] = {part.name: [taken.arg for taken in part.args.args[1:]] for part in methods}
+        for name, methods in METHODS.items():
+            for method, arguments in methods.items():
+                self.assertEqual(found[name].get(method), arguments, f"{name}.{method}")
 
 
 if __name__ == "__main__":
