@@ -41,16 +41,17 @@ class Store:
             return False
         kind = self._blobs[address][0]
         # A layer has no references, so that BELOW is never asked for what is below a layer.
-        return all(self._is_whole_of(BELOW[kind], reference) for reference in self.below(address))
+        return all(self.is_whole_of(BELOW[kind], reference) for reference in self.below(address))
+
+    def is_whole_of(self, kind, address):
+        """Tell whether a blob of this kind is there and whole."""
+        return address in self._blobs and self._blobs[address][0] == kind and self.is_whole(address)
 
     def closure(self, address):
         """Return the closure of a whole blob: each address once, at its first place."""
         found = {}
         self._gather(address, found)
         return list(found)
-
-    def _is_whole_of(self, kind, address):
-        return address in self._blobs and self._blobs[address][0] == kind and self.is_whole(address)
 
     def _gather(self, address, found):
         if address in found:
