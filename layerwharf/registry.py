@@ -72,7 +72,7 @@ class Registry:
             return ("lapsed", claim)
         match request:
             case ("has", _, address):
-                return self._kept(claim, address) if self.store.is_whole(address) else ("lacks", address)
+                return self._keep(claim, address) if self.store.is_whole(address) else ("lacks", address)
             case ("start", _):
                 return ("upload", self.uploads.begin())
             case ("finish", upload, _, _, address):
@@ -86,10 +86,10 @@ class Registry:
         text = self.uploads.finish(upload)
         if text is None:
             # The upload may have become this blob, when the reply to its first "finish" was lost.
-            return self._kept(claim, address) if self.store.is_whole(address) else ("gone", upload)
+            return self._keep(claim, address) if self.store.is_whole(address) else ("gone", upload)
         if address_of("layer", text) != address:
             return ("wrong", address)
-        return self._kept(claim, self.store.keep("layer", text))
+        return self._keep(claim, self.store.keep("layer", text))
 
     def _put(self, claim, kind, text):
         try:
@@ -99,7 +99,7 @@ class Registry:
         for reference in below:
             if not self.store.is_whole_of(BELOW[kind], reference):
                 return ("lacks", reference)
-        return self._kept(claim, self.store.keep(kind, text))
+        return self._keep(claim, self.store.keep(kind, text))
 
     def _name(self, claim, name, address):
         if not any(self.store.is_whole_of(kind, address) for kind in BELOW):
@@ -115,7 +115,7 @@ class Registry:
         kind, text = blob
         return ("piece", address, kind, at, text[at:at + count], len(text))
 
-    def _kept(self, claim, address):
+    def _keep(self, claim, address):
         self._pin(claim, address)
         return ("kept", address)
 

@@ -19,6 +19,10 @@ INTERFACE = {
     "registry": (["Registry"], []),
     "letters": (["Wire"], ["MOST_LETTERS"]),
     "pusher": (["Pusher"], ["PART"]),
+    "puller": (["Puller"], ["PIECE"]),
+    "world": (["World"], []),
+    "calm": (["calm_round", "calm_bound", "run_calm", "full_collection"], []),
+    "judge": (["names_are_whole", "shown_moment", "reachable"], []),
 }
 # For each class of the interface that has methods: each method, and the names of what it takes beside its object.
 METHODS = {
@@ -42,6 +46,17 @@ METHODS = {
         "__init__": ["layers", "name", "platform", "number"], "request": [], "take": ["reply"], "image": [],
         "bundle": [], "address": [],
     },
+    "Puller": {
+        "__init__": ["name", "platform", "number"], "request": [], "take": ["reply"], "kept": [], "result": [],
+    },
+    "World": {"__init__": [], "add_client": ["client"], "do": ["event"]},
+}
+# For each function of the interface that stands in no class: the names of what it takes.
+FUNCTIONS = {
+    "address_of": ["kind", "text"], "is_address": ["text"], "image_text": ["layers"], "bundle_text": ["entries"],
+    "read_image": ["text"], "read_bundle": ["text"], "references": ["kind", "text"], "calm_round": ["world", "steps"],
+    "calm_bound": ["world"], "run_calm": ["world", "steps"], "full_collection": ["world"],
+    "names_are_whole": ["world"], "shown_moment": ["world", "index"], "reachable": ["world"],
 }
 # What rule L8 allows of Python's own names, and L17 forbids of all names.
 BUILTINS = set("""
@@ -213,6 +228,15 @@ class InterfaceTest(unittest.TestCase):
                 self.assertEqual(defined.count(name), 1, name)
             for name in values:
                 self.assertEqual(assigned.count(name), 1, name)
+
+    def test_each_function_has_its_arguments(self):
+        found = {}
+        for path in FILES:
+            for node in tree_of(path).body:
+                if isinstance(node, ast.FunctionDef):
+                    found[node.name] = [taken.arg for taken in node.args.args]
+        for name, arguments in FUNCTIONS.items():
+            self.assertEqual(found.get(name), arguments, name)
 
     def test_each_method_is_defined_in_its_class_with_its_arguments(self):
         found = {}
